@@ -1,0 +1,1 @@
+"""Flavours' runs: jobs of flavours, run on one line one behind another."""

@@ -1,0 +1,53 @@
+"""How an order of jobs is run, and which order of all open jobs is best.
+
+A way is a tuple (cost, end, order): the jobs of order were run one behind another,
+the last one ended in minute end, and cost is what their lateness counts for so far.
+"""
+
+
+def ends_in_order(works, order):
+    ends = []
+    minute = works.minute
+    loaded = works.loaded
+    for number in order:
+        job = works.jobs[number]
+        minute += works.change_minutes(loaded, job.flavour) + job.minutes
+        loaded = job.flavour
+        ends.append(minute)
+    return ends
+
+
+# The ways handed in have run the same jobs and leave the same flavour on the line. What follows
+# never costs more for starting sooner, so a way that costs no less and ends no sooner than another
+# can't become the better one; and of two that are alike in both, the one whose order comes first
+# stays first, whatever follows.
+def worth_going_on(ways):
+    kept = []
+    for way in sorted(ways):
+        if len(kept) == 0 or way[1] < kept[-1][1]:
+            kept.append(way)
+    return kept
+
+
+# The keys of groups are tuples (jobs left, flavour on the line).
+def one_job_further(works, groups, cost_of):
+    further = {}
+    for key, ways in groups.items():
+        left = key[0]
+        kept = worth_going_on(ways)
+        for place, number in enumerate(left):
+            job = works.jobs[number]
+            takes = works.change_minutes(key[1], job.flavour) + job.minutes
+            group = further.setdefault((left[:place] + left[place + 1:], job.flavour), [])
+            for cost, start, order in kept:
+                end = start + takes
+                group.append((cost + cost_of(job.lateness(end)), end, order + (number,)))
+    return further
+
+
+# cost_of tells what a job that is late by so many minutes costs: never less for more minutes.
+def best_way(works, cost_of):
+    groups = {(tuple(works.to_run), works.loaded): [(0, works.minute, ())]}
+    for number in works.to_run:
+        groups = one_job_further(works, groups, cost_of)
+    return min([min(ways) for ways in groups.values()])

@@ -1,0 +1,43 @@
+"""What is kept between the calls: flavours, changes, jobs, the minute and what is on the line."""
+
+
+class Job:
+
+    def __init__(self, flavour, minutes, due):
+        self.flavour = flavour
+        self.minutes = minutes
+        self.due = due
+
+    def lateness(self, end):
+        return max(0, end - self.due)
+
+
+class Works:
+
+    def __init__(self):
+        # No flavours stand for: not begun.
+        self.restart(0)
+
+    def restart(self, flavours):
+        self.flavours = flavours
+        self.changes = [[0] * flavours for flavour in range(flavours)]
+        self.jobs = []
+        # Numbers only ever rise, so the open jobs stay in rising order.
+        self.to_run = []
+        self.minute = 0
+        self.loaded = None
+
+    def has_begun(self):
+        return self.flavours > 0
+
+    def has_flavour(self, flavour):
+        return flavour < self.flavours
+
+    def is_open(self, number):
+        return number in self.to_run
+
+    def change_minutes(self, loaded, flavour):
+        # Nothing has to be changed on a line with nothing on it.
+        if loaded is None:
+            return 0
+        return self.changes[loaded][flavour]
