@@ -3,10 +3,8 @@
 from flavourruns.replies import reply
 from flavourruns.works import Works
 
-# How many numbers a call is handed, by the call's number.
-SIZES = (1, 3, 3, 1, 1, 1, 0, 0, 0)
-# times alone tells in the list how many it is handed.
-TIMES = 9
+# How many numbers a call is handed, by the call's number; None: the list itself tells it ahead of them.
+SIZES = (1, 3, 3, 1, 1, 1, 0, 0, 0, None, 3, 0, 0, 1, 2, 0, 1, 0, 0, 0)
 
 
 def answers(calls):
@@ -15,14 +13,13 @@ def answers(calls):
     at = 0
     while at < len(calls):
         number = calls[at]
-        if number == TIMES:
-            start = at + 2
-            end = start + calls[at + 1]
-        else:
-            start = at + 1
-            end = start + SIZES[number]
-        answer = reply(works, number, calls[start:end])
+        start = at + 1
+        size = SIZES[number]
+        if size is None:
+            size = calls[start]
+            start += 1
+        at = start + size
+        answer = reply(works, number, calls[start:at])
         told.append(len(answer))
         told.extend(answer)
-        at = end
     return told

@@ -1,4 +1,4 @@
-"""How an order of jobs is run, and which order of all open jobs is best.
+"""How an order of jobs is run, and which order of all jobs is best.
 
 A way is a tuple (cost, end, order): the jobs of order were run one behind another,
 the last one ended in minute end, and cost is what their lateness counts for so far.
@@ -29,14 +29,14 @@ def worth_going_on(ways):
     return kept
 
 
-# The keys of groups are tuples (jobs left, flavour on the line).
-def one_job_further(works, groups, cost_of):
+# The keys of groups are tuples (numbers of the jobs left, flavour on the line).
+def one_job_further(works, jobs, groups, cost_of):
     further = {}
     for key, ways in groups.items():
         left = key[0]
         kept = worth_going_on(ways)
         for place, number in enumerate(left):
-            job = works.jobs[number]
+            job = jobs[number]
             takes = works.change_minutes(key[1], job.flavour) + job.minutes
             group = further.setdefault((left[:place] + left[place + 1:], job.flavour), [])
             for cost, start, order in kept:
@@ -45,9 +45,11 @@ def one_job_further(works, groups, cost_of):
     return further
 
 
-# cost_of tells what a job that is late by so many minutes costs: never less for more minutes.
-def best_way(works, cost_of):
-    groups = {(tuple(works.to_run), works.loaded): [(0, works.minute, ())]}
-    for number in works.to_run:
-        groups = one_job_further(works, groups, cost_of)
+# jobs is a dict from rising numbers to all jobs that are to be run; it's handed in, since it may hold one
+# that isn't there. cost_of tells what a job that is late by so many minutes costs: never less for more
+# minutes.
+def best_way(works, jobs, cost_of):
+    groups = {(tuple(jobs), works.loaded): [(0, works.minute, ())]}
+    for number in jobs:
+        groups = one_job_further(works, jobs, groups, cost_of)
     return min([min(ways) for ways in groups.values()])

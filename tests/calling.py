@@ -45,6 +45,56 @@ def times(*jobs):
     return [9, len(jobs)] + list(jobs)
 
 
+def would(f, m, d):
+    return [10, f, m, d]
+
+
+def ring():
+    return [11]
+
+
+def hopeless():
+    return [12]
+
+
+def soon(j):
+    return [13, j]
+
+
+def turn(f, g):
+    return [14, f, g]
+
+
+def open_jobs():
+    return [15]
+
+
+def look(j):
+    return [16, j]
+
+
+def done():
+    return [17]
+
+
+def sums():
+    return [18]
+
+
+def state():
+    return [19]
+
+
+def all_told(flavours=7, jobs=40):
+    """Every call that only tells, at every flavour and job."""
+    pairs = [(f, g) for f in range(flavours) for g in range(flavours)]
+    calls = [state(), open_jobs(), done(), sums(), best(), fewest(), least(), ring(), hopeless(), would(0, 1, 0)]
+    calls += [turn(f, g) for f, g in pairs]
+    for number in range(jobs):
+        calls += [look(number), soon(number), times(number)]
+    return calls
+
+
 def flat(calls):
     return [number for call in calls for number in call]
 

@@ -2,7 +2,8 @@
 
 import unittest
 
-from calling import begin, best, change, drop, fewest, job, last, least, run, times, told, wait
+from calling import (begin, best, change, done, drop, fewest, hopeless, job, last, least, open_jobs, ring, run, soon,
+                     state, sums, times, told, turn, wait, would)
 
 
 class NothingOpen(unittest.TestCase):
@@ -19,8 +20,21 @@ class NothingOpen(unittest.TestCase):
         calls = [begin(2), job(0, 5, 1), job(1, 5, 1), run(0), drop(1), best(), fewest(), least()]
         self.assertEqual(told(*calls)[5:], [[5], [0, 5], [0, 5]])
 
+    def test_what_else_is_told(self):
+        calls = [begin(3), hopeless(), open_jobs(), would(2, 4, 3), soon(0), state()]
+        self.assertEqual(told(*calls)[1:], [[0], [0], [4, 1], [-2], [0, 3, 0, 0, 0]])
+        calls = [begin(2), change(1, 0, 9), job(1, 5, 1), job(1, 5, 1), run(0), drop(1), hopeless(), open_jobs(),
+                 would(0, 4, 18), soon(1), state()]
+        self.assertEqual(told(*calls)[6:], [[0], [0], [13, 0], [-2], [5, 2, 2, 0, 2]])
+
 
 class OneFlavour(unittest.TestCase):
+
+    def test_what_else_is_told(self):
+        calls = [begin(1), ring(), turn(0, 0), turn(0, 1), job(0, 5, 5), run(0), job(0, 5, 9), soon(1), hopeless(),
+                 would(0, 2, 7), would(0, 2, 6), state()]
+        self.assertEqual(told(*calls)[1:],
+                         [[0, 0], [0], [-2], [0], [5, 0, 0], [1], [10, 0], [1, 1], [2, 1], [2, 2], [5, 1, 2, 1, 1]])
 
     def test_no_change_can_be_told(self):
         self.assertEqual(told(begin(1), change(0, 0, 5), change(0, 1, 5), change(1, 0, 5))[1:], [[-22], [-2], [-2]])
@@ -51,6 +65,12 @@ class ShorterOverAThird(unittest.TestCase):
     def test_what_is_late_if_run_next_is_in_time_over_the_third(self):
         calls = [*self.BEGUN, job(0, 10, 99), run(0), job(1, 10, 60), job(2, 10, 60), times(1), fewest(), least()]
         self.assertEqual(told(*calls)[-3:], [[1, 120], [0, 40, 2, 1], [0, 40, 2, 1]])
+
+
+    def test_what_else_is_told(self):
+        calls = [*self.BEGUN, job(0, 10, 99), run(0), job(1, 10, 60), turn(0, 1), soon(1), hopeless(), would(2, 1, 99),
+                 would(2, 1, 15), would(0, 1, 99), ring()]
+        self.assertEqual(told(*calls)[10:], [[100], [120, 100], [1, 1], [0, 0], [0, 1], [1, 1], [310, 0, 2, 1]])
 
 
 class OrdersThatEndAlike(unittest.TestCase):
@@ -107,7 +127,24 @@ class DueJustWhenItEnds(unittest.TestCase):
         self.assertEqual(told(*calls)[5:], [[0, 20, 1], [0, 20, 1], [0, 20], [20, 7, 0]])
 
 
+    def test_what_else_is_told(self):
+        calls = [begin(2), change(0, 1, 7), job(0, 10, 10), job(1, 3, 20), run(0), hopeless(), soon(1), would(1, 5, 25),
+                 run(1), done(), sums()]
+        self.assertEqual(told(*calls)[5:], [[0], [20, 7], [5, 0], [20, 7, 0], [2, 0, 10, 0, 1, 20, 0],
+                                            [0, 7, 13, 0, 0, 0]])
+        calls = [begin(2), change(0, 1, 7), job(0, 10, 9), job(1, 3, 19), run(0), hopeless(), soon(1), would(1, 5, 24),
+                 run(1), done(), sums()]
+        self.assertEqual(told(*calls)[5:], [[1, 1], [20, 7], [5, 1], [20, 7, 1], [2, 0, 10, 1, 1, 20, 1],
+                                            [0, 7, 13, 0, 2, 2]])
+
+
 class SameFlavourTwice(unittest.TestCase):
+
+    def test_what_else_is_told(self):
+        calls = [begin(2), change(0, 1, 9), change(1, 0, 9), job(1, 4, 99), run(0), job(1, 4, 8), soon(1), hopeless(),
+                 would(1, 3, 99), would(0, 3, 99), turn(1, 1), run(1), sums(), state()]
+        self.assertEqual(told(*calls)[6:],
+                         [[8, 0], [0], [3, 0], [12, 0], [0], [8, 0, 0], [0, 0, 8, 0, 0, 0], [8, 2, 2, 0, 2]])
 
     def test_no_change_between(self):
         calls = [begin(2), change(0, 1, 9), change(1, 0, 9), job(1, 4, 99), job(1, 4, 99), times(0, 1), run(0), run(1)]
@@ -139,6 +176,14 @@ class NothingOnTheLine(unittest.TestCase):
         calls = [begin(2), change(0, 1, 40), change(1, 0, 50), job(0, 5, 9), job(1, 5, 9), best(), fewest(), least(),
                  times(0, 1), run(1)]
         self.assertEqual(last(*calls), [5, 0, 0])
+
+
+    def test_what_else_is_told(self):
+        for flavour in range(3):
+            calls = [begin(3)] + [change(f, g, 40) for f in range(3) for g in range(3) if f != g]
+            calls += [would(flavour, 5, 5), job(flavour, 5, 5), soon(0), hopeless(), state(), run(0), sums(), state()]
+            self.assertEqual(told(*calls)[7:], [[5, 0], [0], [5, 0], [0], [0, 3, 1, 1, 0], [5, 0, 0],
+                                                [0, 0, 5, 0, 0, 0], [5, 3, 1, 0, flavour + 1]])
 
 
 class DroppedThatWasBestFirst(unittest.TestCase):
@@ -178,6 +223,22 @@ class SevenOpen(unittest.TestCase):
             self.assertEqual(order[0], end)
             calls.append(run(order[1]))
         self.assertEqual(last(*calls)[0], end)
+
+    def test_what_else_is_told(self):
+        calls = [begin(7)] + [job(flavour, 10, 11 - flavour) for flavour in range(7)]
+        calls += [hopeless(), open_jobs(), would(0, 1, 1), soon(6), drop(6), would(0, 1, 1), state()]
+        self.assertEqual(told(*calls)[8:], [[5, 2, 3, 4, 5, 6], [7, 0, 1, 2, 3, 4, 5, 6], [-28], [10, 0], [6], [1, 5],
+                                            [0, 7, 7, 6, 0]])
+
+
+class RingOfTwo(unittest.TestCase):
+
+    def test_there_and_back(self):
+        self.assertEqual(last(begin(2), change(0, 1, 30), change(1, 0, 5), ring()), [35, 0, 1])
+
+    def test_whatever_is_on_the_line(self):
+        calls = [begin(2), change(0, 1, 30), change(1, 0, 5), job(1, 5, 5), run(0), ring()]
+        self.assertEqual(last(*calls), [35, 0, 1])
 
 
 if __name__ == "__main__":
